@@ -77,7 +77,7 @@ func DivNumbers(a, b string) (string, bool) {
 	if err != nil || y.isZero() {
 		return "", false
 	}
-	return x.times(y.inverse()).text()
+	return x.dividedBy(y).text()
 }
 
 // CompareNumbers compares a and b.
@@ -104,7 +104,7 @@ func PowerOf(a string, n int64) (string, bool) {
 	if err != nil || n < 0 || n > MaxPower {
 		return "", false
 	}
-	return x.power(n).text()
+	return x.power(int(n)).text()
 }
 
 // GcdOf returns the greatest common divisor of two integers.
@@ -321,8 +321,30 @@ func ratioOf(x integer) ratio {
 	return ratio{above: x, below: natural{1}}
 }
 
+// limitedRatio returns above / below in lowest terms, which is the last convergent of its continued fraction; below is not 0. It fails, and does so before long, if there are many more than MaxDigits digits: no convergent has more digits than the last one.
+func limitedRatio(above, below integer) (ratio, bool) {
+	rest, divisor := above.size, below.size
+	p, q := natural{1}, natural{}
+	pBefore, qBefore := natural{}, natural{1}
+	for !divisor.isZero() {
+		quotient, remainder := rest.divide(divisor)
+		p, pBefore = p.times(quotient).plus(pBefore), p
+		q, qBefore = q.times(quotient).plus(qBefore), q
+		if len(p) > maxNumberLimbs || len(q) > maxNumberLimbs {
+			return ratio{}, false
+		}
+		rest, divisor = divisor, remainder
+	}
+	return ratio{above: integerOf(above.negative != below.negative, p), below: q}, true
+}
+
 func (a ratio) isZero() bool {
-	return a.above.size.isZero()
+	return a.above.isZero()
+}
+
+// zero returns 0, also for the zero value.
+func (a ratio) zero() ratio {
+	return ratioOf(integer{})
 }
 
 func (a ratio) negated() ratio {
@@ -356,6 +378,11 @@ func (a ratio) inverse() ratio {
 	return ratio{above: integerOf(a.above.negative, a.below), below: a.above.size}
 }
 
+// dividedBy returns a / b; b is not 0.
+func (a ratio) dividedBy(b ratio) ratio {
+	return a.times(b.inverse())
+}
+
 func (a ratio) compare(b ratio) int {
 	return a.above.scaled(b.below).compare(b.above.scaled(a.below))
 }
@@ -368,12 +395,8 @@ func (a ratio) floor() integer {
 	return integerOf(a.above.negative, quotient)
 }
 
-func (a ratio) power(n int64) ratio {
-	product := ratioOf(integerOf(false, natural{1}))
-	for range n {
-		product = ratio{above: product.above.times(a.above), below: product.below.times(a.below)}
-	}
-	return product
+func (a ratio) power(n int) ratio {
+	return ratio{above: a.above.power(n), below: a.below.power(n)}
 }
 
 // text fails if there are more than MaxDigits digits above or below.
@@ -410,6 +433,19 @@ func integerOf(negative bool, size natural) integer {
 	return integer{negative: negative && !size.isZero(), size: size}
 }
 
+func smallInteger(n uint64) integer {
+	return integerOf(false, trimmed([]uint64{n}))
+}
+
+func (a integer) isZero() bool {
+	return a.size.isZero()
+}
+
+// zero returns 0.
+func (a integer) zero() integer {
+	return integer{}
+}
+
 func (a integer) negated() integer {
 	return integerOf(!a.negative, a.size)
 }
@@ -428,6 +464,10 @@ func (a integer) times(b integer) integer {
 	return integerOf(a.negative != b.negative, a.size.times(b.size))
 }
 
+func (a integer) power(n int) integer {
+	return integerOf(a.negative && n%2 == 1, a.size.power(n))
+}
+
 func (a integer) scaled(by natural) integer {
 	return integerOf(a.negative, a.size.times(by))
 }
@@ -435,6 +475,11 @@ func (a integer) scaled(by natural) integer {
 // over divides by one of the divisors of a.
 func (a integer) over(divisor natural) integer {
 	return integerOf(a.negative, a.size.over(divisor))
+}
+
+// dividedBy returns a / b, which must be an integer; b is not 0.
+func (a integer) dividedBy(b integer) integer {
+	return integerOf(a.negative != b.negative, a.size.over(b.size))
 }
 
 func (a integer) compare(b integer) int {
@@ -541,6 +586,14 @@ func (a natural) times(b natural) natural {
 		product[i+len(b)] = addProduct(product[i:], b, limb)
 	}
 	return trimmed(product)
+}
+
+func (a natural) power(n int) natural {
+	product := natural{1}
+	for range n {
+		product = product.times(a)
+	}
+	return product
 }
 
 // timesPlus returns a times factor plus extra.
