@@ -29,6 +29,9 @@ var numberForm = regexp.MustCompile(`^(-?)(0|[1-9][0-9]*)(?:/([1-9][0-9]*))?$`)
 
 // isNumberText says what a number is in another way than the program: its form, its digits, and that it is written as math/big writes it.
 func isNumberText(s string) bool {
+	if len(s) > 2*digitLimit+2 {
+		return false
+	}
 	parts := numberForm.FindStringSubmatch(s)
 	if parts == nil || len(parts[2]) > digitLimit || len(parts[3]) > digitLimit {
 		return false
