@@ -535,6 +535,14 @@ func (a natural) isOne() bool {
 	return len(a) == 1 && a[0] == 1
 }
 
+// bitLength returns the number of bits without leading zeros.
+func (a natural) bitLength() int {
+	if a.isZero() {
+		return 0
+	}
+	return 64*(len(a)-1) + bits.Len64(a[len(a)-1])
+}
+
 func (a natural) compare(b natural) int {
 	if len(a) != len(b) {
 		return cmp.Compare(len(a), len(b))
