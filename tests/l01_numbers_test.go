@@ -178,6 +178,7 @@ func limbNumbers() []string {
 }
 
 func TestArithmeticOfGreatNumbers(t *testing.T) {
+	t.Parallel()
 	numbers := limbNumbers()
 	for _, a := range numbers {
 		checkOne(t, a)
@@ -225,6 +226,7 @@ func randomNumber(random *rand.Rand) string {
 }
 
 func TestArithmeticOfRandomNumbers(t *testing.T) {
+	t.Parallel()
 	random := rand.New(rand.NewPCG(1, 2))
 	for range 4000 {
 		a, b := randomNumber(random), randomNumber(random)

@@ -306,6 +306,7 @@ func hostileLists() [][]string {
 }
 
 func TestPolynomialFunctionsReturnForAllArguments(t *testing.T) {
+	t.Parallel()
 	numbers := []int64{math.MinInt64, -1, 0, 1, 2, 12, 13, 60, 199, 200, 201, math.MaxInt64 - 1, math.MaxInt64}
 	xs := []string{"0", "1", "-1", "1/2", "", "x", "-0", "2/4", nines(60), "-1/" + nines(60), nines(61), "\xff", strings.Repeat("1", 100000)}
 	lists, valid := hostileLists(), []bool{}
@@ -341,6 +342,7 @@ func TestPolynomialFunctionsReturnForAllArguments(t *testing.T) {
 
 // All coefficients have 60 digits above and below, and no common divisors, so that numbers on the way have thousands of digits.
 func TestGreatestPolynomials(t *testing.T) {
+	t.Parallel()
 	random := rand.New(rand.NewPCG(21, 22))
 	list := func(count int) []string {
 		p := []string{}

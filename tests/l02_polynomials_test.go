@@ -170,6 +170,7 @@ func checkPolyText(t *testing.T, a []string) {
 }
 
 func TestAllTinyPolynomials(t *testing.T) {
+	t.Parallel()
 	polys := [][]string{{}}
 	for _, c := range []string{"-1", "1", "2"} {
 		polys = append(polys, []string{c})
@@ -190,6 +191,7 @@ func TestAllTinyPolynomials(t *testing.T) {
 }
 
 func TestRandomPolynomials(t *testing.T) {
+	t.Parallel()
 	random := rand.New(rand.NewPCG(5, 6))
 	for range 1500 {
 		a, b := smallPoly(random, 6), smallPoly(random, 6)
@@ -422,6 +424,7 @@ func TestTextsThatAreNearlyPolynomials(t *testing.T) {
 }
 
 func TestReadPolyOfAllShortTexts(t *testing.T) {
+	t.Parallel()
 	check := func(s string) {
 		want := isPolyText(s)
 		p, ok := impl.ReadPoly(s)

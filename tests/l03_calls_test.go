@@ -191,6 +191,7 @@ func checkCall(t *testing.T, call recCall, a recArguments, name string) {
 }
 
 func TestRecurrenceFunctionsReturnForAllArguments(t *testing.T) {
+	t.Parallel()
 	numbers := []int64{math.MinInt64, math.MinInt64 + 1, -1, 0, 1, 2, 3, 8, 19, 20, 21, 39, 40, 41, math.MaxInt64 - 1, math.MaxInt64}
 	recurrences, lists, matrices := hostileRecurrences(), hostileTerms(), hostileMatrices()
 	for i, r := range recurrences {

@@ -146,6 +146,7 @@ func TestDigitsOfTerms(t *testing.T) {
 }
 
 func TestDigitsOfShortestRecurrences(t *testing.T) {
+	t.Parallel()
 	most, great := nines(60), tenTo(59)
 	for _, c := range []struct{ terms, want string }{
 		{"1," + most, "1;" + most}, {most + ",1", most + ";1/" + most}, {tenTo(29) + ",1/" + tenTo(30), tenTo(29) + ";1/" + great}, {tenTo(30) + ",1/" + tenTo(30), ""}, {"1/" + tenTo(30) + "," + tenTo(29), "1/" + tenTo(30) + ";" + great}, {"1/" + tenTo(30) + "," + tenTo(30), ""},
@@ -258,6 +259,7 @@ func TestSizesOfHankelMatrices(t *testing.T) {
 
 // The last column decides even if there are 21.
 func TestHankelRankWithTwentyOneColumns(t *testing.T) {
+	t.Parallel()
 	random := rand.New(rand.NewPCG(45, 46))
 	for range 30 {
 		least, _ := impl.MinimalOf(smallRecurrence(random, 3))
@@ -349,6 +351,7 @@ func TestRanksOfMultiplesOfPrimes(t *testing.T) {
 
 // All numbers have about 60 digits above and below, so that determinants have thousands of digits.
 func TestRanksOfGreatMatrices(t *testing.T) {
+	t.Parallel()
 	random := rand.New(rand.NewPCG(47, 48))
 	great := func(rows, columns int) [][]string {
 		matrix := [][]string{}

@@ -148,6 +148,7 @@ func checkRecurrence(t *testing.T, r impl.Recurrence) {
 }
 
 func TestAllTinyRecurrences(t *testing.T) {
+	t.Parallel()
 	for _, r := range tinyRecurrences([]string{"-1", "0", "1"}, 3) {
 		checkRecurrence(t, r)
 	}
@@ -161,6 +162,7 @@ func TestAllTinyRecurrences(t *testing.T) {
 }
 
 func TestRandomRecurrences(t *testing.T) {
+	t.Parallel()
 	random := rand.New(rand.NewPCG(31, 32))
 	for order := range orderLimit + 1 {
 		for range 40 {
@@ -222,6 +224,7 @@ func checkShortest(t *testing.T, terms []string) {
 }
 
 func TestAllTinyLists(t *testing.T) {
+	t.Parallel()
 	tinyLists([]string{"-1", "0", "1"}, 7, func(list []string) { checkShortest(t, list) })
 	tinyLists([]string{"0", "1/2", "2"}, 6, func(list []string) { checkShortest(t, list) })
 	tinyLists([]string{"0", "1"}, 11, func(list []string) { checkShortest(t, list) })
@@ -229,6 +232,7 @@ func TestAllTinyLists(t *testing.T) {
 
 // Of the first terms of a sequence, twice as many as the least order are enough, and one less is not.
 func TestHowManyTermsAreNeeded(t *testing.T) {
+	t.Parallel()
 	random := rand.New(rand.NewPCG(35, 36))
 	for order := range orderLimit + 1 {
 		for range 12 {

@@ -101,6 +101,7 @@ func hostileWholes() []impl.Recurrence {
 }
 
 func TestFarFunctionsReturnForAllArguments(t *testing.T) {
+	t.Parallel()
 	calls := farCallsOf("IsWhole", "FarTerm", "FarTerms", "FarSum", "BackTerm")
 	for i, r := range hostileWholes() {
 		for k, n := range hostileIntegers {
@@ -115,6 +116,7 @@ func TestFarFunctionsReturnForAllArguments(t *testing.T) {
 }
 
 func TestPeriodsReturnForAllArguments(t *testing.T) {
+	t.Parallel()
 	for i, r := range hostileWholes() {
 		for _, m := range hostileIntegers {
 			for _, call := range farCallsOf("PeriodOf", "ResiduesOf", "ZeroPlaces", "FirstZero") {
@@ -126,6 +128,7 @@ func TestPeriodsReturnForAllArguments(t *testing.T) {
 
 // The recurrences with 8 fractions take longest.
 func TestFarExactReturnsForAllArguments(t *testing.T) {
+	t.Parallel()
 	for i, r := range hostileWholes() {
 		for _, n := range hostileIntegers {
 			if n == 199 && len(recText(r)) > 1000 {

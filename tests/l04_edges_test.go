@@ -74,6 +74,7 @@ func TestFarTermsOfTheOrderZero(t *testing.T) {
 }
 
 func TestFarTermsOfTheGreatestOrder(t *testing.T) {
+	t.Parallel()
 	random := rand.New(rand.NewPCG(71, 72))
 	most := impl.Recurrence{Start: copies("-"+nines(60), 8), Coeffs: copies("-"+nines(60), 8)}
 	for _, r := range []impl.Recurrence{most, greatWhole(random, 8), rec("1,2,3,4,5,6,7,8;0,0,0,0,0,0,0,1"), rec("0,0,0,0,0,0,0,1;0,0,0,0,0,0,0,-1"), rec("0,0,0,0,0,0,0,1;0,0,0,0,0,0,0,0"), rec("1,0,0,0,0,0,0,0;1,1,1,1,1,1,1,1")} {

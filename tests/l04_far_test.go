@@ -55,6 +55,7 @@ func TestIsWhole(t *testing.T) {
 var someModuli = []int64{2, 3, 4, 5, 6, 7, 8, 9, 10, 12, 16, 30, 97, 100, 210, 1024, 2187, 9973, 30030, 65536, 510510, 524288, 531441, 720720, 994009, 999983, 999999, 1000000}
 
 func TestAllTinyFarTerms(t *testing.T) {
+	t.Parallel()
 	for i, r := range tinyRecurrences([]string{"-1", "0", "1"}, 3) {
 		for _, m := range []int64{2, 3, 4, 6} {
 			checkNear(t, r, 8, m)
@@ -75,6 +76,7 @@ func TestAllTinyFarTerms(t *testing.T) {
 }
 
 func TestRandomFarTerms(t *testing.T) {
+	t.Parallel()
 	random := rand.New(rand.NewPCG(51, 52))
 	for order := range orderLimit + 1 {
 		for _, m := range someModuli {
@@ -141,6 +143,7 @@ func TestSumsOfFarTerms(t *testing.T) {
 }
 
 func TestExactTerms(t *testing.T) {
+	t.Parallel()
 	random := rand.New(rand.NewPCG(59, 60))
 	for order := range orderLimit + 1 {
 		for range 30 {

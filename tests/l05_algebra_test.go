@@ -52,6 +52,7 @@ func TestAllTinyPairs(t *testing.T) {
 }
 
 func TestAllTinySequences(t *testing.T) {
+	t.Parallel()
 	random := rand.New(rand.NewPCG(83, 84))
 	for _, r := range tinyRecurrences([]string{"0", "1", "-1", "2"}, 2) {
 		checkOneSequence(t, oneArguments(random, r))
@@ -91,6 +92,7 @@ func TestAllTinyPolynomialSequences(t *testing.T) {
 }
 
 func TestRandomPairs(t *testing.T) {
+	t.Parallel()
 	random := rand.New(rand.NewPCG(85, 86))
 	for order := range orderLimit + 1 {
 		for other := range orderLimit + 1 {
@@ -105,6 +107,7 @@ func TestRandomPairs(t *testing.T) {
 }
 
 func TestRandomSequences(t *testing.T) {
+	t.Parallel()
 	random := rand.New(rand.NewPCG(87, 88))
 	for range 30 {
 		for order := range orderLimit + 1 {
@@ -131,6 +134,7 @@ func TestRandomWovenSequences(t *testing.T) {
 }
 
 func TestRandomPolynomialSequences(t *testing.T) {
+	t.Parallel()
 	random := rand.New(rand.NewPCG(91, 92))
 	for range 100 {
 		checkAlgebra(t, "PolySequence", algebraArguments{list: smallPoly(random, orderLimit)})

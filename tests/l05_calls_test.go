@@ -70,6 +70,7 @@ func checkAlgebraCall(t *testing.T, call algebraCall, a algebraArguments, name s
 var hostileShifts = []int64{math.MinInt64, math.MinInt64 + 1, -16, -1, 0, 1, 2, 3, 4, 5, 8, 15, 16, 17, 1 << 32, 1<<32 + 1, math.MaxInt64 - 1, math.MaxInt64}
 
 func TestAlgebraReturnsForAllPairs(t *testing.T) {
+	t.Parallel()
 	recurrences := hostileAlgebra()
 	for i, r := range recurrences {
 		for k, s := range recurrences {
@@ -82,6 +83,7 @@ func TestAlgebraReturnsForAllPairs(t *testing.T) {
 }
 
 func TestAlgebraReturnsForAllArguments(t *testing.T) {
+	t.Parallel()
 	factors := []string{"", "0", "1", "-1", "1/2", "-3/2", "2/4", "-0", "+1", "1/0", "x", "\xff", nines(60), "-1/" + nines(60), nines(60) + "/" + tenTo(59), nines(61)}
 	lists := append(hostileTerms(), hostileLists()...)
 	for i, r := range hostileAlgebra() {

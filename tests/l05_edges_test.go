@@ -417,6 +417,7 @@ func vanishing(coeffs ...[]string) ([]impl.Recurrence, bool) {
 
 // A sequence can agree with one of a small order in all terms but the last one of those that decide.
 func TestTermsThatDecide(t *testing.T) {
+	t.Parallel()
 	random := rand.New(rand.NewPCG(109, 110))
 	found := 0
 	for range 120 {

@@ -54,6 +54,7 @@ func TestExamplesOfAutomata(t *testing.T) {
 }
 
 func TestRandomAutomata(t *testing.T) {
+	t.Parallel()
 	random := rand.New(rand.NewPCG(61, 1))
 	for round := range 300 {
 		letters := 1 + random.IntN(letterLimit)
@@ -77,6 +78,7 @@ func TestRandomAutomata(t *testing.T) {
 }
 
 func TestAllAutomataWithOneState(t *testing.T) {
+	t.Parallel()
 	items := []string{"0", "1", "-1", "2", "-1/2"}
 	for letters := 1; letters <= letterLimit; letters++ {
 		tinyLists(items, 2+letters, func(list []string) {
@@ -92,6 +94,7 @@ func TestAllAutomataWithOneState(t *testing.T) {
 }
 
 func TestAllAutomataWithTwoStates(t *testing.T) {
+	t.Parallel()
 	for letters := 1; letters <= 2; letters++ {
 		others := []impl.Automaton{aut("1;1" + strings.Repeat(";1", letters)), aut("0,1;1,0" + strings.Repeat(";0,1|1,0", letters)), aut(";" + strings.Repeat(";", letters))}
 		for code := range 1 << (4 + 4*letters) {
@@ -269,6 +272,7 @@ func TestLevelSumsAddValuesUp(t *testing.T) {
 }
 
 func TestAutomataWithGreatNumbers(t *testing.T) {
+	t.Parallel()
 	random := rand.New(rand.NewPCG(61, 6))
 	for round := range 20 {
 		letters, states := 1+random.IntN(letterLimit), 1+random.IntN(3)

@@ -210,6 +210,7 @@ func checkAutomatonCall(t *testing.T, call automatonCall, a automatonArguments, 
 }
 
 func TestAutomatonFunctionsReturnForAllArguments(t *testing.T) {
+	t.Parallel()
 	numbers := []string{"0", "1", "-1/2", "", "x", "2/4", "-0", nines(60), nines(61), "\xff", "1/0"}
 	counts := []int64{math.MinInt64, -1, 0, 1, 2, 19, 20, 21, math.MaxInt64}
 	for i, a := range hostileAutomata() {
@@ -227,6 +228,7 @@ func TestAutomatonFunctionsReturnForAllArguments(t *testing.T) {
 }
 
 func TestFunctionsOfTwoAutomataReturnForAllArguments(t *testing.T) {
+	t.Parallel()
 	list := hostileAutomata()
 	for i, a := range list {
 		for k, b := range list {

@@ -77,6 +77,7 @@ func TestAutomataWithoutStates(t *testing.T) {
 }
 
 func TestNumbersOfStatesAndLetters(t *testing.T) {
+	t.Parallel()
 	one := func() string { return "1" }
 	for states := range 9 {
 		for letters := range 6 {
@@ -226,6 +227,7 @@ func TestAutomataOfTheSeriesZero(t *testing.T) {
 
 // The first word with a value other than 0 can have one letter less than there are states.
 func TestFirstWordsOfChains(t *testing.T) {
+	t.Parallel()
 	random := rand.New(rand.NewPCG(62, 3))
 	for letters := 1; letters <= letterLimit; letters++ {
 		for length := range stateLimit {
