@@ -212,6 +212,27 @@ func TestRowWordsThatAreLaterModuloPrimes(t *testing.T) {
 		} {
 			checkRows(t, aut(s))
 		}
+		// There are as many of them as there can be.
+		most := chain(2, make([]int64, 5))
+		for i := range 5 {
+			most.Moves[0][i][i+1], most.Moves[1][i][i+1] = p[0], "1"
+		}
+		checkRows(t, most)
+	}
+}
+
+// Fractions are not the same because their difference is 0 modulo a prime.
+func TestFractionsThatAreTheSameModuloPrimes(t *testing.T) {
+	for _, bits := range []uint{62, 63, 64} {
+		for _, p := range append(productsOfPrimes(bits, 1), primesBelow(bits, 1)[0].String()) {
+			other := new(big.Int).Add(intOf(p), big.NewInt(2)).String()
+			for _, form := range []string{"1/x;1;1", "1;1/x;1", "1;1;1/x", "1;1;1;1/x", "-1/x;1/3;0", "2,0;0,1/x;0,1|0,0"} {
+				a, b := aut(strings.ReplaceAll(form, "x", "2")), aut(strings.ReplaceAll(form, "x", other))
+				checkTelling(t, a, b)
+				checkTelling(t, b, a)
+				checkTelling(t, a, a)
+			}
+		}
 	}
 }
 

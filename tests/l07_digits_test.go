@@ -189,6 +189,32 @@ func TestSeriesThatPrimesDivide(t *testing.T) {
 	}
 }
 
+// There can be more states than there may be though there are fewer modulo some primes.
+func TestTooManyStatesThatPrimesDivide(t *testing.T) {
+	for _, bits := range []uint{62, 63, 64} {
+		for _, p := range append(productsOfPrimes(bits, 1), primesBelow(bits, 1)[0].String()) {
+			for _, text := range []string{". . . . . a a a a a !p a", "!p . . . . . a a a a a a", ". !p a . . . . a a a a a", "+ !p . . . . a a a a a a"} {
+				list := parts(strings.ReplaceAll(text, "p", p))
+				a, ok := impl.AutomatonOfParts(2, list)
+				if want := text[0] == '+'; ok != want || ok && len(a.Start) != 6 {
+					t.Errorf("AutomatonOfParts of %s: got %s, %v", partsText(list), autText(a), ok)
+				}
+			}
+			long := chain(1, make([]int64, 3))
+			long.Start[0] = p
+			a, ok := impl.ConcatAutomata(long, chain(1, make([]int64, 3)))
+			wantAutomaton(t, "ConcatAutomata with seven states", a, ok, "")
+			a, ok = impl.ConcatAutomata(long, chain(1, make([]int64, 2)))
+			wantAutomaton(t, "ConcatAutomata with six states", a, ok, strings.Replace(autText(chain(1, make([]int64, 5))), ",1;", ","+p+";", 1))
+			one, two := aut(p+",0;1,0;0,1|1,0"), aut("1,0,0,0,0;1,0,0,0,0;0,1,0,0,0|0,0,1,0,0|0,0,0,1,0|0,0,0,0,1|1,0,0,0,0")
+			a, ok = impl.HadamardAutomata(one, two)
+			wantAutomaton(t, "HadamardAutomata with ten states", a, ok, "")
+			a, ok = impl.HadamardAutomata(two, one)
+			wantAutomaton(t, "HadamardAutomata with ten states", a, ok, "")
+		}
+	}
+}
+
 // The only value of a product can be 0 modulo many primes, which the numbers of both series are made of.
 func TestProductsThatManyPrimesDivide(t *testing.T) {
 	t.Parallel()
